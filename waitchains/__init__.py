@@ -1,0 +1,1 @@
+"""A calendar of things that wait: one clock, four chains."""
