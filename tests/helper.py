@@ -2,8 +2,7 @@
 
 import unittest
 
-from waitchains.chains import Calendar
-from waitchains.desk import answers, answers_on
+from waitchains.desk import answers
 
 FAR = 10 ** 13
 END = 10 ** 15
@@ -16,8 +15,11 @@ ASLEEP = 3
 
 
 def numbers_of(text):
-    """The one list of numbers that a text of calls stands for."""
-    return [int(word) for word in text.replace("|", " ").split()]
+    """The one list of numbers that a text of calls stands for, no longer than such a list may be."""
+    numbers = [int(word) for word in text.replace("|", " ").split()]
+    if text.count("|") >= 120 or len(numbers) > 16000:
+        raise ValueError("a list of calls is too long")
+    return numbers
 
 
 def text_of(answered):
@@ -39,9 +41,8 @@ def run(text):
     return text_of(answers(numbers_of(text)))
 
 
-def run_on(calendar, text):
-    """The answers to calls on a calendar of the test's own."""
-    return text_of(answers_on(calendar, numbers_of(text)))
+def last_answer(text):
+    return run(text).split(" | ")[-1]
 
 
 def joinall_of(pairs):
@@ -52,30 +53,85 @@ def joinall_of(pairs):
     return " ".join(words)
 
 
-def calendar_at(clock, text):
-    """A calendar with this clock after calls that are all done."""
-    calendar = Calendar()
-    calendar.clock = clock
-    for answer in run_on(calendar, text).split(" | "):
-        if answer.split()[:1] not in ([], ["0"]):
-            raise ValueError("a call that readies a test was refused")
-    return calendar
+def row_of(clock, current=(), future=(), frozen=(), asleep=()):
+    """The row that tells a state, each thing a tuple of what told tells of it on its chain."""
+    row = [clock]
+    for things in (current, future, frozen, asleep):
+        row.append(len(things))
+        for thing in things:
+            row.extend(thing)
+    return row
 
 
-def state_of(calendar):
-    """Everything that the calendar keeps, as plain values that later changes don't reach."""
-    things = [
-        (number, thing.number, thing.priority, thing.holds, thing.chain, thing.due, thing.rest)
-        for number, thing in sorted(calendar.things.items())
-    ]
-    return (calendar.clock, things, [list(chain) for chain in calendar.chains])
+def counted(row):
+    """A row with its length before it, as a text."""
+    return " ".join([str(number) for number in [len(row)] + list(row)])
+
+
+def load_of(row):
+    return "23 " + counted(row)
+
+
+def told_of(row):
+    """What told answers for the state that the row tells."""
+    return "0 " + counted(row)
+
+
+def ids_told(answer):
+    """The ids on each of the four chains, in order, as an answer of told tells them."""
+    numbers = [int(word) for word in answer.split()]
+    chains = []
+    start = 3
+    for width in (3, 3, 4, 3):
+        end = start + 1 + width * numbers[start]
+        chains.append(numbers[start + 1:end:width])
+        start = end
+    return chains
 
 
 class CallsCase(unittest.TestCase):
     """A test case that compares calls with their answers."""
 
-    def answered(self, calls, expected):
-        self.assertEqual(run(calls), expected, calls)
+    def same(self, answered, expected, calls):
+        """The answers are these. Only the first that differs is shown, as a comparison of long texts takes minutes."""
+        if answered == expected:
+            return
+        got = answered.split(" | ")
+        due = expected.split(" | ")
+        place = 0
+        while got[place:place + 1] == due[place:place + 1]:
+            place += 1
+        got_there = " | ".join(got[place:place + 1])[:300]
+        due_there = " | ".join(due[place:place + 1])[:300]
+        self.fail(f"answer {place} is {got_there!r} and not {due_there!r}, for the calls {calls[:300]!r}")
 
-    def chain(self, calendar, chain, expected):
-        self.assertEqual(calendar.chains[chain], expected)
+    def answered(self, calls, expected):
+        self.same(run(calls), expected, calls)
+
+    def after(self, calls, expected):
+        """The last call is answered so."""
+        self.same(last_answer(calls), expected, calls)
+
+    def chain_after(self, calls, chain, expected):
+        """All calls are done, and the ids on the chain are these then: told by chain, by told and by where."""
+        parts = run(calls + f" | 19 {chain} | 22").split(" | ")
+        for part in parts:
+            self.assertEqual(part.split()[0], "0", calls[:200])
+        self.assertEqual(parts[-2], "0 " + counted(expected), calls[:200])
+        self.assertEqual(ids_told(parts[-1])[chain], expected, calls[:200])
+        looks = run(" | ".join([calls] + [f"18 {number}" for number in expected])).split(" | ")
+        for place, number in enumerate(expected):
+            words = looks[place - len(expected)].split()
+            self.assertEqual((words[1], words[5]), (str(chain), str(place)), (calls[:200], number))
+
+    def state_after(self, calls, row):
+        """The state after the calls is the one that the row tells."""
+        self.after(calls + " | 22", told_of(row))
+
+    def on(self, row, calls, expected, row_after):
+        """From the one state the calls are answered so and lead to the other."""
+        self.answered(f"{load_of(row)} | {calls} | 22", f"0 | {expected} | {told_of(row_after)}")
+
+    def refused(self, row, call, refusal):
+        """From this state the call is refused so, and nothing is changed."""
+        self.on(row, call, str(refusal), row)

@@ -33,6 +33,14 @@ NODES = (
 TOP = (ast.Expr, ast.ImportFrom, ast.FunctionDef, ast.ClassDef, ast.Assign)
 
 
+# Values of Python's own that are walked where they stand, and where that may be.
+WALKED = ("range", "enumerate", "zip", "reversed")
+WALKERS = ("list", "tuple", "dict", "sorted", "sum", "any", "all", "enumerate", "zip", "min", "max")
+NOT_OBJECT_VALUES = (
+    "items keys values pop update append clear extend insert remove reverse setdefault sort args encode format".split()
+)
+
+
 def trees():
     return [(path.name, ast.parse(path.read_text())) for path in FILES]
 
@@ -90,6 +98,57 @@ class Language(unittest.TestCase):
             for alias in node.names:
                 self.assertNotEqual(alias.name, "*", name)
                 self.assertIsNone(alias.asname, name)
+
+    def test_no_circle_of_imports(self):
+        drawn = {"waitchains." + path.stem: set() for path in FILES}
+        for name, node in walked(ast.ImportFrom):
+            drawn["waitchains." + name[:-3]].add(node.module)
+        while drawn:
+            last = [module for module in drawn if not drawn[module] & set(drawn)]
+            self.assertNotEqual(last, [], sorted(drawn))
+            drawn = {module: drawn[module] for module in drawn if module not in last}
+
+    def test_locals_are_not_called_like_imports_or_classes(self):
+        for name, tree in trees():
+            taken = {alias.name for node in tree.body if isinstance(node, ast.ImportFrom) for alias in node.names}
+            taken |= {node.name for node in tree.body if isinstance(node, ast.ClassDef)}
+            top = [node.targets[0].id for node in tree.body if isinstance(node, ast.Assign)]
+            top += [node.name for node in tree.body if isinstance(node, ast.FunctionDef)]
+            self.assertEqual(taken & set(top), set(), name)
+            for node in ast.walk(tree):
+                if isinstance(node, ast.arg):
+                    self.assertNotIn(node.arg, taken, (name, node.lineno))
+                if isinstance(node, ast.Name) and isinstance(node.ctx, ast.Store):
+                    self.assertNotIn(node.id, taken, (name, node.lineno))
+
+    def test_no_annotations(self):
+        for name, node in walked(ast.FunctionDef):
+            self.assertIsNone(node.returns, (name, node.name))
+        for name, node in walked(ast.arg):
+            self.assertIsNone(node.annotation, (name, node.arg))
+
+    def test_is_stands_beside_none_alone(self):
+        for name, node in walked(ast.Compare):
+            for operator, other in zip(node.ops, node.comparators):
+                if isinstance(operator, (ast.Is, ast.IsNot)):
+                    self.assertIsInstance(other, ast.Constant, (name, node.lineno))
+                    self.assertIsNone(other.value, (name, node.lineno))
+
+    def test_walked_at_once(self):
+        for name, tree in trees():
+            allowed = [node.iter for node in ast.walk(tree) if isinstance(node, (ast.For, ast.comprehension))]
+            for node in ast.walk(tree):
+                if isinstance(node, ast.Call) and isinstance(node.func, ast.Name) and node.func.id in WALKERS:
+                    allowed += node.args[:1]
+            for node in ast.walk(tree):
+                if isinstance(node, ast.Call) and isinstance(node.func, ast.Name) and node.func.id in WALKED:
+                    self.assertIn(node, allowed, (name, node.lineno))
+
+    def test_values_of_objects(self):
+        for name, node in walked(ast.Attribute):
+            if isinstance(node.ctx, ast.Store):
+                self.assertIsInstance(node.value, ast.Name, (name, node.lineno))
+                self.assertNotIn(node.attr, NOT_OBJECT_VALUES, (name, node.lineno))
 
     def test_names(self):
         for name, node in walked(ast.Name):

@@ -14,15 +14,8 @@ ON_ASLEEP = "0 1 5 | 5 1"
 UNKNOWN = (-OUT, -1, 0, 2, 10 ** 9, 10 ** 9 + 1, OUT)
 
 
-def last_answer(calls):
-    return run(calls).split(" | ")[-1]
-
-
 class Probes(CallsCase):
     """Where a thing is, by calls of its own."""
-
-    def after(self, calls, expected):
-        self.assertEqual(last_answer(calls), expected, calls)
 
     def is_on_current(self, calls):
         self.after(calls + " | 6 1", "-7")

@@ -23,6 +23,13 @@ class Calendar:
         self.chains = [[], [], [], []]
 
 
+# The calendar goes on with all that the other one has; the other is not used any more, as both share it then.
+def become(calendar, other):
+    calendar.clock = other.clock
+    calendar.things = other.things
+    calendar.chains = other.chains
+
+
 # Every chain is in order of this number, the least first: one way of putting things in serves all four.
 def order_key(thing):
     if thing.chain == CURRENT:
